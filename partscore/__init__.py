@@ -1,0 +1,1 @@
+"""Parts and score: players' parts drawn out of a score."""
