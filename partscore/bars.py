@@ -14,6 +14,11 @@ def read_bar(reader):
     return bar
 
 
+def read_bars(reader):
+    """Take bars: how many, then they."""
+    return [read_bar(reader) for turn in range(reader.take())]
+
+
 def bar_numbers(bar):
     """The bar as it stands in a list that is answered."""
     numbers = [len(bar)]
@@ -56,6 +61,11 @@ def bar_as_told(bar, bar_length):
     return total == bar_length
 
 
+def bars_as_told(bars, bar_length):
+    """Whether a score's bar of that length may be each of these."""
+    return all([bar_as_told(bar, bar_length) for bar in bars])
+
+
 def bar_rests(bar):
     """Whether all the bar's items are rests."""
     for length, keys in bar:
@@ -64,8 +74,13 @@ def bar_rests(bar):
     return True
 
 
+def whole_rest(bar_length):
+    """A bar of that length told by one rest."""
+    return [(bar_length, [])]
+
+
 def kept_bar(bar, bar_length):
     """The bar as a staff has it: one that rests is told by one rest."""
     if bar_rests(bar):
-        return [(bar_length, [])]
+        return whole_rest(bar_length)
     return bar

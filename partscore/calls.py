@@ -4,7 +4,9 @@ An answer is a list: the number that's answered, then each list that's answered,
 behind how many numbers it has. A refusal is its number alone.
 """
 
-from partscore.bars import bar_as_told, bars_numbers, kept_bar, read_bar
+from partscore.back import part_as_told, put_back, read_pieces
+from partscore.bars import bar_as_told, bars_numbers, kept_bar, read_bars
+from partscore.lines import lined_bar_numbers, lined_bars_as_told, parted_bars, put_on_one, read_lined_bars
 from partscore.parts import drawn_out
 from partscore.reading import Reader
 
@@ -46,12 +48,6 @@ def answer_begins(score, reader):
     return [len(lengths)]
 
 
-def read_bars(numbers):
-    """The bars of a list that tells how many bars, then they."""
-    reader = Reader(numbers)
-    return [read_bar(reader) for turn in range(reader.take())]
-
-
 def staff_as_told(bars, lengths):
     """Whether a score with bars of these lengths may have a staff of these bars."""
     if len(bars) != len(lengths):
@@ -61,7 +57,7 @@ def staff_as_told(bars, lengths):
 
 def answer_staff(score, reader):
     """Add a staff: its number."""
-    bars = read_bars(reader.take_row())
+    bars = read_bars(Reader(reader.take_row()))
     if not staff_as_told(bars, score.lengths):
         return [-1]
     if len(score.staves) >= MOST_STAVES:
@@ -91,8 +87,41 @@ def answer_draw(score, reader):
     return with_lists(len(pieces), pieces)
 
 
-# In the order of the calls' numbers; 4 to 6 (back, two, parted) come behind these.
-CALLS = (answer_begins, answer_staff, answer_staves, answer_draw)
+def answer_back(score, reader):
+    """Put a part back: how many staves, and of each a list of its bars."""
+    staff_count = reader.take()
+    pieces = read_pieces(Reader(reader.take_row()))
+    if staff_count < 1 or staff_count > MOST_STAVES or not part_as_told(score, staff_count, pieces):
+        return [-1]
+    staves = put_back(score, staff_count, pieces)
+    return with_lists(staff_count, [bars_numbers(bars) for bars in staves])
+
+
+def answer_two(score, reader):
+    """Put two staves on one: how many bars, and each as a list."""
+    first = reader.take()
+    second = reader.take()
+    if not score.has_staff(first) or not score.has_staff(second):
+        return [-2]
+    lined_bars = put_on_one(score.staves[first], score.staves[second])
+    return with_lists(len(lined_bars), [lined_bar_numbers(lined) for lined in lined_bars])
+
+
+def answer_parted(score, reader):
+    """Part two on one again: how many bars, and of each of the two staves a list of its bars."""
+    lined_bars = read_lined_bars(Reader(reader.take_row()))
+    if not lined_bars_as_told(lined_bars, score.lengths):
+        return [-1]
+    pairs = parted_bars(lined_bars, score.lengths)
+    first = [pair[0] for pair in pairs]
+    second = [pair[1] for pair in pairs]
+    return with_lists(len(pairs), [bars_numbers(first), bars_numbers(second)])
+
+
+# In the order of the calls' numbers.
+CALLS = (
+    answer_begins, answer_staff, answer_staves, answer_draw, answer_back, answer_two, answer_parted,
+)
 
 
 def answer_call(score, reader):
